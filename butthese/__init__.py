@@ -1,0 +1,1 @@
+"""Butthese: all trees but these."""

@@ -1,0 +1,55 @@
+"""What lists of plain forms miss, share, and leave to the forms behind."""
+
+from butthese.diagrams import ALL, Diagram, Places, are_apart
+from butthese.errors import BadForm, BadForms, NotPlain
+
+
+def check_plain(world, forms):
+    """Raise the error of the first entry that is not a form, then of the first one that is not plain."""
+    for position, form in enumerate(forms):
+        if not world.is_form(form):
+            raise BadForms(position)
+    for position, form in enumerate(forms):
+        if not world.is_plain(form):
+            raise NotPlain(position)
+
+
+def left_behind(diagram, rows):
+    """The set of all trees, and behind each row the set of those that no row so far fits."""
+    left = [ALL]
+    for row in rows:
+        left.append(diagram.less(left[-1], diagram.set_of(row)))
+    return left
+
+
+def rest(world, forms):
+    """Plain forms, no two of which share a tree, that fit just the trees that a list misses."""
+    check_plain(world, forms)
+    places = Places(world)
+    rows = [places.row_of(form) for form in forms]
+    diagram = Diagram(places, rows)
+    return diagram.forms_of(left_behind(diagram, rows)[-1])
+
+
+def shared(world, first, second):
+    """A plain form that fits just the trees that both of two plain forms fit, or None."""
+    for form in (first, second):
+        if not world.is_plain(form):
+            raise BadForm(form)
+    places = Places(world)
+    row = places.row_of(first)
+    other = places.row_of(second)
+    if are_apart(row, other):
+        return None
+    both = {**row, **other}
+    return places.forms_of({place: [both[place]] for place in both})[0]
+
+
+def parted(world, forms):
+    """For each form plain forms, no two of which share a tree, of the trees that it is the first to fit."""
+    check_plain(world, forms)
+    places = Places(world)
+    rows = [places.row_of(form) for form in forms]
+    diagram = Diagram(places, rows)
+    left = left_behind(diagram, rows)
+    return [diagram.forms_of(diagram.less(before, behind)) for before, behind in zip(left, left[1:])]
