@@ -1,8 +1,34 @@
-"""Sets of trees told by the signs at places, as the numbers of a diagram's nodes."""
+"""Sets of trees told by the signs at places, as the numbers of a diagram's nodes.
 
-WHOLE = 0
+A place is a string of digits: the way to it from the whole tree, WHOLE, by the numbers of the parts,
+counted from 0. So in the order of strings it stands behind those that it lies in.
+
+A row is a dict from places to the signs that stand there: a plain form without its letters. A cell is
+a dict from places to lists of signs, any of which may stand there. Other places are free.
+"""
+
+WHOLE = ""
 NONE = 0
 ALL = 1
+# What NONE and ALL have for a place: it stands behind all places.
+LAST = "~"
+
+
+def row_of(form):
+    """The row of a form as if no letter stood twice in it."""
+    row = {}
+    waiting = [(WHOLE, form)]
+    while waiting:
+        place, node = waiting.pop()
+        if isinstance(node, tuple):
+            row[place] = node[0]
+            waiting.extend([(below(place, part), node[part + 1]) for part in range(len(node) - 1)])
+    return row
+
+
+def below(place, part):
+    """The place of a part, counted from 0, of what stands at a place."""
+    return place + str(part)
 
 
 def are_apart(first, second):
@@ -13,81 +39,88 @@ def are_apart(first, second):
     return False
 
 
-class Places:
-    """The places in the forms and trees of a world, each with a number; WHOLE is all of a tree.
-
-    A row is a dict from places to the signs that stand there: a plain form without its letters.
-    A cell is a dict from places to lists of signs, any of which may stand there. Other places
-    are free. In both of them a place comes behind those that it lies in.
-    """
+class Heads:
+    """What may stand at a place in a world: its signs, and "*" for a further leaf."""
 
     def __init__(self, world):
-        self._parts = dict(world.signs)
+        self._many = dict(world.signs)
         if world.more:
-            self._parts["*"] = 0
-        self._numbers = {}
+            self._many["*"] = 0
 
-    def heads(self):
-        """What may stand at a place: the signs, and "*" for further leaves."""
-        return list(self._parts)
-
-    def below(self, place, part):
-        """The place of a part, counted from 0, of what stands at a place."""
-        return self._numbers.setdefault((place, part), len(self._numbers) + 1)
-
-    def row_of(self, form):
-        """The row of a plain form."""
-        row = {}
-        waiting = [(WHOLE, form)]
-        while waiting:
-            place, node = waiting.pop()
-            if isinstance(node, tuple):
-                row[place] = node[0]
-                parts = [(self.below(place, part), node[part + 1]) for part in range(len(node) - 1)]
-                waiting.extend(parts[::-1])
-        return row
+    def told(self):
+        """The list of the heads."""
+        return list(self._many)
 
     def forms_of(self, cell):
         """Plain forms, no two of which share a tree, that fit just the trees of a cell."""
         made = {}
-        for place in reversed(list(cell)):
-            made[place] = [form for sign in cell[place] for form in self._forms_with(sign, place, made)]
+        for place in sorted(cell, reverse=True):
+            made[place] = [form for head in cell[place] for form in self._forms_with(head, place, made)]
         return made.get(WHOLE, ["_"])
 
-    def _forms_with(self, sign, place, made):
-        """The forms with a sign at a place, of those that are made for the places below."""
-        forms = [(sign,)]
-        for part in range(self._parts[sign]):
-            choices = made.get(self.below(place, part), ["_"])
+    def _forms_with(self, head, place, made):
+        """The forms with a head at a place, of those that are made for the places below."""
+        forms = [(head,)]
+        for part in range(self._many[head]):
+            choices = made.get(below(place, part), ["_"])
             forms = [(*form, choice) for form in forms for choice in choices]
         return forms
 
 
 class Diagram:
-    """Sets of the trees that some rows fit, and of what is left of such sets without others.
+    """Sets of trees, each the number of a node.
 
-    A set is the number of a node. NONE and ALL stand for themselves; any other node asks which
-    head stands at a place and has the number to go on with for each head. Nodes ask for the
-    places in one order, and no two nodes ask the same, so the same set has the same number:
-    thousands of rows that a rest is told by share few nodes, where lists of them would not.
+    NONE and ALL stand for themselves; any other node asks which head stands at a place and has the
+    number to go on with for each head. Nodes ask for the places in the order of strings, and no two
+    nodes ask the same, so the same set has the same number: thousands of rows that a rest is told by
+    share few nodes, where lists of them would not. The nodes that a node goes on with have lesser numbers.
     """
 
-    def __init__(self, places, rows):
-        self._places = places
-        self._heads = places.heads()
-        self._order = places_by_use(rows)
-        self._ranks = {place: rank for rank, place in enumerate(self._order)}
-        self._nodes = [(len(self._order), []), (len(self._order), [])]
+    def __init__(self, world):
+        self._cells = Heads(world)
+        self._heads = self._cells.told()
+        self._nodes = [(LAST, []), (LAST, [])]
         self._numbers = {}
         self._left = {}
 
     def set_of(self, row):
         """The set of the trees that a row fits."""
         number = ALL
-        for place in sorted(row, key=lambda at: self._ranks[at], reverse=True):
-            ways = [number if head == row[place] else NONE for head in self._heads]
-            number = self._number_of(self._ranks[place], ways)
+        for place in sorted(row, reverse=True):
+            number = self._number_of(place, [number if head == row[place] else NONE for head in self._heads])
         return number
+
+    def taken(self, other, number):
+        """The set that has a number in another diagram of the same world."""
+        mine = {NONE: NONE, ALL: ALL}
+        for known in other.numbers_below(number):
+            place, ways = other.node(known)
+            mine[known] = self._number_of(place, [mine[way] for way in ways])
+        return mine[number]
+
+    def numbers_below(self, number):
+        """The numbers of a node and of all that it goes on with, but for NONE and ALL, the ascending list."""
+        found = {}
+        waiting = [number]
+        while waiting:
+            number = waiting.pop()
+            if number > ALL and number not in found:
+                found[number] = True
+                waiting.extend(self._nodes[number][1])
+        return sorted(found)
+
+    def node(self, number):
+        """The place that a node asks for, and where it goes on for each head."""
+        place, ways = self._nodes[number]
+        return place, list(ways)
+
+    def place_asked(self, number):
+        """The place that a node asks for."""
+        return self._nodes[number][0]
+
+    def way(self, number, head):
+        """Where a node goes on if a head stands at its place."""
+        return self._nodes[number][1][self._heads.index(head)]
 
     def less(self, first, second):
         """The set of the trees of the first set that are not in the second one."""
@@ -95,13 +128,24 @@ class Diagram:
         while waiting:
             pair = waiting.pop()
             if self._known(pair) is None:
-                rank, pairs = self._pairs(pair)
+                place, pairs = self._pairs(pair)
                 unknown = [other for other in pairs if self._known(other) is None]
                 if unknown:
                     waiting.extend([pair, *unknown])
                 else:
-                    self._left[pair] = self._number_of(rank, [self._known(other) for other in pairs])
+                    self._left[pair] = self._number_of(place, [self._known(other) for other in pairs])
         return self._known((first, second))
+
+    def both(self, first, second):
+        """The set of the trees that are in both of two sets."""
+        return self.less(first, self.less(first, second))
+
+    def has(self, number, tree):
+        """Whether a tree is in a set."""
+        while number > ALL:
+            place, ways = self._nodes[number]
+            number = ways[self._heads.index(part_at(tree, place)[0])]
+        return number == ALL
 
     def forms_of(self, number):
         """Plain forms, no two of which share a tree, that fit just the trees of a set."""
@@ -110,39 +154,39 @@ class Diagram:
         while waiting:
             cell, number = waiting.pop()
             if number == ALL:
-                forms.extend(self._places.forms_of(cell))
+                forms.extend(self._cells.forms_of(cell))
             elif number != NONE:
                 waiting.extend(self._ways_on(cell, number))
         return forms
 
     def _ways_on(self, cell, number):
         """The cells that a cell falls into at a node, each with where it goes on, the last one first."""
-        rank, ways = self._nodes[number]
+        place, ways = self._nodes[number]
         heads = {}
         for head, way in zip(self._heads, ways):
             heads.setdefault(way, []).append(head)
-        place = self._order[rank]
         return [({**cell, place: heads[way]}, way) for way in reversed(list(heads))]
 
-    def _number_of(self, rank, ways):
+    def _number_of(self, place, ways):
         """The number of the node that asks for a place and goes on in these ways."""
         if all([way == ways[0] for way in ways]):
             return ways[0]
-        key = (rank, *ways)
+        key = (place, *ways)
         if key not in self._numbers:
             self._numbers[key] = len(self._nodes)
-            self._nodes.append((rank, ways))
+            self._nodes.append((place, ways))
         return self._numbers[key]
 
     def _pairs(self, pair):
-        """The rank of the first place that one of two sets asks for, and both sets for each head there."""
+        """The first place that one of two sets asks for, and both sets for each head there."""
         first, second = pair
-        rank = min(self._nodes[first][0], self._nodes[second][0])
-        return rank, list(zip(self._ways(first, rank), self._ways(second, rank)))
+        place = min(self._nodes[first][0], self._nodes[second][0])
+        return place, list(zip(self._ways(first, place), self._ways(second, place)))
 
-    def _ways(self, number, rank):
-        own_rank, ways = self._nodes[number]
-        return ways if own_rank == rank else [number for _ in self._heads]
+    def _ways(self, number, place):
+        """Where a set goes on for each head at a place that it asks for or leaves free."""
+        own_place, ways = self._nodes[number]
+        return ways if own_place == place else [number for _ in self._heads]
 
     def _known(self, pair):
         """What is left of the first of two sets without the second one, or None if that is not known yet."""
@@ -154,10 +198,8 @@ class Diagram:
         return self._left.get(pair)
 
 
-def places_by_use(rows):
-    """The places of some rows, the most frequent ones first: asking for them early keeps forms few."""
-    counts = {}
-    for row in rows:
-        for place in row:
-            counts[place] = counts.get(place, 0) + 1
-    return sorted(counts, key=lambda at: (-counts[at], at))
+def part_at(tree, place):
+    """The part of a tree at a place."""
+    for digit in place:
+        tree = tree[int(digit) + 1]
+    return tree

@@ -1,7 +1,7 @@
 """Fitting a form to a tree, and making a tree of a form."""
 
 from butthese.errors import BadForm, BadTree, BadValues
-from butthese.worlds import is_name, nodes_of
+from butthese.worlds import built, is_name, nodes_of
 
 
 def same_tree(first, second):
@@ -18,12 +18,8 @@ def same_tree(first, second):
     return True
 
 
-def fit(world, form, tree):
-    """The dict from the letters of a form to trees by which it fits a tree, or None."""
-    if not world.is_form(form):
-        raise BadForm(form)
-    if not world.is_tree(tree):
-        raise BadTree(tree)
+def fitted(form, tree):
+    """The dict from the letters of a form to trees by which it fits a tree of the same world, or None."""
     values = {}
     waiting = [(form, tree)]
     while waiting:
@@ -35,6 +31,15 @@ def fit(world, form, tree):
         elif part != "_" and not same_tree(values.setdefault(part, below), below):
             return None
     return values
+
+
+def fit(world, form, tree):
+    """The dict from the letters of a form to trees by which it fits a tree, or None."""
+    if not world.is_form(form):
+        raise BadForm(form)
+    if not world.is_tree(tree):
+        raise BadTree(tree)
+    return fitted(form, tree)
 
 
 def is_bare(world, value):
@@ -51,21 +56,20 @@ def are_values(world, value):
     return all([is_name(name) and world.is_tree(tree) for name, tree in value.items()])
 
 
+def letters_in(form):
+    """The letters of a form of signs and letters alone, from the front, as often as they stand in it."""
+    return [node for node in nodes_of(form) if isinstance(node, str)]
+
+
+def with_values(form, values):
+    """The tree that a form of signs and letters becomes with the trees of a dict that has its letters."""
+    return built(form, lambda letter: values[letter], lambda sign, parts: (sign, *parts))
+
+
 def become(world, form, values):
     """The tree that a form becomes when the trees of a dict stand for its letters."""
     if not is_bare(world, form):
         raise BadForm(form)
-    nodes = nodes_of(form)
-    letters = [node for node in nodes if isinstance(node, str)]
-    if not are_values(world, values) or not all([letter in values for letter in letters]):
+    if not are_values(world, values) or not all([letter in values for letter in letters_in(form)]):
         raise BadValues(values)
-    made = []
-    for node in reversed(nodes):
-        if isinstance(node, str):
-            made.append(values[node])
-        else:
-            many = len(node) - 1
-            parts = made[len(made) - many:]
-            del made[len(made) - many:]
-            made.append((node[0], *parts[::-1]))
-    return made[0]
+    return with_values(form, values)

@@ -51,6 +51,20 @@ def nodes_of(value):
     return nodes
 
 
+def built(form, leaf, whole):
+    """What is made of a form from the leaves up: leaf(text) of "_" and letters, whole(sign, parts) of all else."""
+    made = []
+    for node in reversed(nodes_of(form)):
+        if isinstance(node, str):
+            made.append(leaf(node))
+        else:
+            many = len(node) - 1
+            parts = made[len(made) - many:]
+            del made[len(made) - many:]
+            made.append(whole(node[0], parts[::-1]))
+    return made[0]
+
+
 class World:
     """Signs, each with a number of parts, and perhaps further leaves besides."""
 

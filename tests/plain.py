@@ -17,7 +17,19 @@ FULL = World([("f", 3), ("a", 0), ("g", 1), ("b", 0), ("h", 2), ("k", 3)])
 WIDE = World([("nil", 0)], more=True)
 WIDE_PAIRS = World([("pair", 2), ("nil", 0)], more=True)
 WIDE_FULL = World([("a", 0), ("f", 3), ("b", 0), ("g", 1), ("c", 0), ("h", 2)], more=True)
+NIL, ONE, A, B = ("nil",), ("one",), ("a",), ("b",)
 WORLDS = [POINT, THREE, CHAIN, PAIRS, FULL, WIDE, WIDE_PAIRS, WIDE_FULL]
+
+# Worlds with few signs: here forms whose letters stand twice leave no tree the soonest.
+TWO = World([("a", 0), ("b", 0)])
+TRIPLES = World([("a", 0), ("f", 3)])
+LONE_PAIRS = World([("a", 0), ("h", 2)])
+MIXED = World([("a", 0), ("g", 1), ("h", 2)])
+FORKS = World([("a", 0), ("b", 0), ("g", 1)])
+WIDE_CHAIN = World([("a", 0), ("g", 1)], more=True)
+WIDE_TWO = World([("a", 0), ("b", 0)], more=True)
+TIGHT_WORLDS = [POINT, TWO, THREE, CHAIN, TRIPLES, LONE_PAIRS, PAIRS, MIXED, FORKS, WIDE, WIDE_TWO, WIDE_CHAIN,
+                WIDE_PAIRS]
 
 
 def is_name(value):
@@ -118,6 +130,17 @@ def small_trees(world, most, further=2):
     return [tree for total in trees for tree in trees[total]]
 
 
+def trees_up_to(world, many, further=3):
+    """All trees up to some size: to the greatest one of which, with the smaller ones, there are not more than many."""
+    told = []
+    for most in range(1, 13):
+        trees = small_trees(world, most, further)
+        if len(trees) > many:
+            break
+        told = trees
+    return told
+
+
 def subtrees(tree):
     return [tree] + ([] if tree[0] == "*" else [below for part in tree[1:] for below in subtrees(part)])
 
@@ -148,6 +171,62 @@ def plain_fits(form, tree):
     if form[0] != tree[0]:
         return False
     return form[0] == "*" or all(plain_fits(*pair) for pair in zip(form[1:], tree[1:]))
+
+
+def matches(form, tree, values):
+    """Whether a form fits a tree, seen from the front: the first place of a letter tells what it stands for."""
+    if form == "_":
+        return True
+    if type(form) is str:
+        return values.setdefault(form, tree) == tree
+    if form[0] != tree[0]:
+        return False
+    return form[0] == "*" or all(matches(*pair, values) for pair in zip(form[1:], tree[1:]))
+
+
+def fits(form, tree):
+    """Whether a form fits a tree."""
+    return matches(form, tree, {})
+
+
+def put_in(form, values):
+    """The tree that a form of signs and letters becomes."""
+    return values[form] if type(form) is str else (form[0], *[put_in(part, values) for part in form[1:]])
+
+
+def is_bare(world, value):
+    """Whether a value is a form without "_" and ("*",)."""
+    if type(value) is str:
+        return is_name(value)
+    return is_form(world, value) and value[0] != "*" and all(is_bare(world, part) for part in value[1:])
+
+
+def is_condition(world, value):
+    """[7], word by word."""
+    if type(value) is not tuple or len(value) != 3 or type(value[0]) is not str or not is_bare(world, value[1]):
+        return False
+    if value[0] in ("alike", "unlike"):
+        return is_bare(world, value[2])
+    return value[0] in ("fits", "misses") and is_form(world, value[2])
+
+
+def condition_holds(condition, values):
+    """Whether a condition holds for a dict, as [7] says it."""
+    word, form, other = condition
+    tree = put_in(form, values)
+    if word in ("alike", "unlike"):
+        return (tree == put_in(other, values)) is (word == "alike")
+    return fits(other, tree) is (word == "fits")
+
+
+def saying_holds(saying, values):
+    return all(condition_holds(condition, values) for condition in saying)
+
+
+def letters_of(saying):
+    """The letters of the forms of a saying, in ascending order."""
+    forms = [form for word, *both in saying for form in (both if word in ("alike", "unlike") else both[:1])]
+    return sorted({letter for form in forms for letter in letters(form)})
 
 
 def apart(first, second):
@@ -239,6 +318,50 @@ class Forms:
         return forms
 
 
+    def tree(self, depth_left):
+        """A tree that is not deeper than that."""
+        name, many = self.random.choice([head for head in self.heads if depth_left > 1 or not head[1]])
+        if name == "*":
+            return ("*", self.random.randrange(3))
+        return (name, *[self.tree(depth_left - 1) for _ in range(many)])
+
+    def around(self, tree, names="xy", ease=0.1):
+        """A form with the signs of a tree, but for a letter or "_" in the place of some parts, deep ones rather."""
+        if self.random.random() < ease:
+            return self.random.choice(["_", *names])
+        if tree[0] == "*":
+            return self.random.choice(["_", ("*",), *names])
+        return (tree[0], *[self.around(part, names, ease + 0.15) for part in tree[1:]])
+
+    def bare(self, signs, names, eager=0.6):
+        """A form without "_" and ("*",)."""
+        while True:
+            form, _ = self.form(signs, 4, names, eager)
+            if is_bare(self.world, form):
+                return form
+
+    def list(self, most=6, signs=12, names="xy", eager=0.7):
+        """A list of forms within the bounds of [4], in which letters may stand twice."""
+        forms = []
+        for _ in range(self.random.randint(0, most)):
+            form, used = self.form(min(signs, self.random.randint(1, 5)), 4, names, eager)
+            if used or self.random.random() < 0.1:
+                forms.append(form)
+                signs -= used
+        return forms
+
+    def condition(self, names="xy", signs=3):
+        """A condition; the letters of patterns have the names x and y, as some outside have."""
+        word = self.random.choice(["alike", "unlike", "unlike", "fits", "misses", "misses"])
+        form = self.bare(self.random.choice([0, 0, 0, 1, 2]), names)
+        if word in ("alike", "unlike"):
+            return (word, form, self.bare(self.random.randint(0, signs), names))
+        return (word, form, self.form(self.random.randint(0, signs), 4, "xy", self.random.choice([0.6, 0.9]))[0])
+
+    def saying(self, most=6, names="xy", signs=3):
+        return [self.condition(names, signs) for _ in range(self.random.randint(0, most))]
+
+
 def nested(many):
     """A list, tuple or dict that is nested so many deep."""
     value = "x"
@@ -247,6 +370,40 @@ def nested(many):
         if at % 4 == 3:
             value = ("pair", ("nil",), value[1])
     return value
+
+
+def at_place(path, leaf):
+    """A form of ternary signs f that has a leaf at a place and "_" elsewhere."""
+    parts = ["_", "_", "_"]
+    if not path:
+        return leaf
+    parts[path[0]] = at_place(path[1:], leaf)
+    return ("f", *parts)
+
+
+PATHS = list(product(range(3), repeat=2))
+
+
+def chain(many):
+    """The tree of CHAIN that is so many signs above zero."""
+    tree = ("zero",)
+    for _ in range(many):
+        tree = ("next", tree)
+    return tree
+
+
+LONG_NAMES = World([("abcdefgh", 3), ("bbbbbbbb", 0)], more=True)
+
+
+def great_forms():
+    """A function from numbers to plain forms of LONG_NAMES: full ones one deeper, whose letters have long names."""
+    names = ("".join(name) for name in product("abcdefgh", repeat=8))
+
+    def full(depth_left):
+        parts = [full(depth_left - 1) if depth_left else next(names) for _ in range(3)]
+        return ("abcdefgh", *parts)
+
+    return full
 
 
 def anything():

@@ -5,26 +5,15 @@ import itertools
 import unittest
 
 from butthese import rests
-from butthese.errors import BadForm, BadForms, NotPlain
+from butthese.errors import BadForm
 from butthese.rests import parted, rest, shared
 from butthese.worlds import World
 import plain
-from plain import CHAIN, FULL, PAIRS, POINT, THREE, WIDE, WIDE_FULL, WIDE_PAIRS, WORLDS, Forms
+from plain import (CHAIN, FULL, NIL, ONE, PAIRS, PATHS, POINT, THREE, WIDE, WIDE_FULL, WIDE_PAIRS, WORLDS, Forms,
+                   at_place)
+from wrong import WrongPlainLists
 
-NIL, ONE = ("nil",), ("one",)
 MOST_SIGNS_OF_TEXTS = 800
-
-
-def at_place(path, leaf):
-    """A form of ternary signs f that has a leaf at a place and "_" elsewhere."""
-    parts = ["_", "_", "_"]
-    if not path:
-        return leaf
-    parts[path[0]] = at_place(path[1:], leaf)
-    return ("f", *parts)
-
-
-PATHS = list(itertools.product(range(3), repeat=2))
 
 
 class Rests(unittest.TestCase):
@@ -202,9 +191,7 @@ class ToldLists(Rests):
         self.assertEqual(self.shares(rest(WIDE_FULL, forms)) + sum(self.shares(part) for part in parts), 1)
 
     def test_told_trees_as_forms(self):
-        tree = ("zero",)
-        for _ in range(400):
-            tree = ("next", tree)
+        tree = plain.chain(400)
         told = rest(CHAIN, [tree])
         self.assertEqual(len(told), 401)
         self.assertEqual(sorted(map(CHAIN.is_plain, told)), [True] * 401)
@@ -250,13 +237,7 @@ class Shared(Rests):
         self.assertEqual(shared(WIDE_PAIRS, ("pair", ("*",), "_"), ("pair", "x", NIL)), ("pair", ("*",), NIL))
 
     def test_texts_stay_short(self):
-        world = World([("abcdefgh", 3), ("bbbbbbbb", 0)], more=True)
-        names = ("".join(letters) for letters in itertools.product("abcdefgh", repeat=8))
-
-        def full(depth_left):
-            parts = [full(depth_left - 1) if depth_left else next(names) for _ in range(3)]
-            return ("abcdefgh", *parts)
-
+        world, full = plain.LONG_NAMES, plain.great_forms()
         great, flat = full(2), full(0)
         self.assertGreater(len(plain.text(full(3))), MOST_SIGNS_OF_TEXTS)
         for first, second in ((great, "x"), ("x", great), (great, flat), (flat, full(2)), (great, full(2))):
@@ -283,50 +264,8 @@ class Shared(Rests):
         self.assertEqual(shared(second=NIL, first="x", world=PAIRS), NIL)
 
 
-class Wrong(unittest.TestCase):
-    def raises(self, error, position, world, forms):
-        for function in (rest, parted):
-            kept = list(forms)
-            with self.assertRaises(error) as caught:
-                function(world, forms)
-            self.assertIs(type(caught.exception), error)
-            self.assertEqual(caught.exception.position, position)
-            self.assertEqual(len(forms), len(kept))
-            self.assertTrue(all(one is other for one, other in zip(forms, kept)))
-
-    def test_the_first_entry_that_is_not_a_form(self):
-        for value in plain.anything():
-            self.raises(BadForms, 0, PAIRS, [value])
-            self.raises(BadForms, 0, PAIRS, [value, value])
-            self.raises(BadForms, 2, PAIRS, ["x", ("pair", NIL, "_"), value, None, "y"])
-            self.raises(BadForms, 1, WIDE_FULL, ["x", value])
-
-    def test_bad_forms_stand_ahead_of_forms_that_are_not_plain(self):
-        double = ("pair", "x", "x")
-        self.raises(BadForms, 2, PAIRS, [double, NIL, ["nil"]])
-        self.raises(BadForms, 1, PAIRS, [double, None, double])
-        self.raises(BadForms, 1, PAIRS, ["x", ("*",), double])
-
-    def test_the_first_entry_that_is_not_plain(self):
-        double, hidden = ("pair", "x", "x"), ("pair", ("pair", "y", "_"), ("pair", "x", "y"))
-        self.raises(NotPlain, 0, PAIRS, [double])
-        self.raises(NotPlain, 1, PAIRS, [NIL, double, hidden])
-        self.raises(NotPlain, 3, PAIRS, ["x", "x", ("pair", "x", "y"), hidden])
-
-    def test_told_lists_with_parts_changed(self):
-        for seed, world in enumerate(WORLDS):
-            forms = Forms(world, seed + 400)
-            for _ in range(4):
-                told = rest(world, forms.plain_list(3, 6))
-                for at, form in list(enumerate(told))[:5]:
-                    for value in plain.changed(form):
-                        passed = [*told[:at], value, *told[at:]]
-                        if not plain.is_form(world, value):
-                            self.raises(BadForms, at, world, passed)
-                        elif not plain.is_plain(world, value):
-                            self.raises(NotPlain, at, world, passed)
-                        else:
-                            rest(world, passed)
+class Wrong(WrongPlainLists, unittest.TestCase):
+    calls = (rest, parted)
 
 
 class General(unittest.TestCase):
@@ -359,7 +298,8 @@ class General(unittest.TestCase):
 
     def test_world_of_six_signs(self):
         told = rest(FULL, [("f", ("a",), "_", ("g", "x"))])
-        self.assertEqual(sum(plain.share(FULL, form) for form in told), 1 - plain.share(FULL, ("f", ("a",), ("g", "x"))))
+        self.assertEqual(sum(plain.share(FULL, form) for form in told),
+                         1 - plain.share(FULL, ("f", ("a",), ("g", "x"))))
 
 
 if __name__ == "__main__":
