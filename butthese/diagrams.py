@@ -51,6 +51,10 @@ class Heads:
         """The list of the heads."""
         return list(self._many)
 
+    def places_below(self, head, place):
+        """The places of the parts of a head that stands at a place; none of None."""
+        return [below(place, part) for part in range(self._many.get(head, 0))]
+
     def forms_of(self, cell):
         """Plain forms, no two of which share a tree, that fit just the trees of a cell."""
         made = {}
@@ -61,8 +65,8 @@ class Heads:
     def _forms_with(self, head, place, made):
         """The forms with a head at a place, of those that are made for the places below."""
         forms = [(head,)]
-        for part in range(self._many[head]):
-            choices = made.get(below(place, part), ["_"])
+        for part_place in self.places_below(head, place):
+            choices = made.get(part_place, ["_"])
             forms = [(*form, choice) for form in forms for choice in choices]
         return forms
 
@@ -121,6 +125,10 @@ class Diagram:
     def way(self, number, head):
         """Where a node goes on if a head stands at its place."""
         return self._nodes[number][1][self._heads.index(head)]
+
+    def behind(self, number, place, head):
+        """What is left of a set, of which no sooner place is asked, if a head stands at a place."""
+        return self.way(number, head) if self._nodes[number][0] == place else number
 
     def less(self, first, second):
         """The set of the trees of the first set that are not in the second one."""

@@ -59,15 +59,20 @@ def missed(world, forms):
     return missed_by(world, Diagram(world), forms).tree_with("_")
 
 
-def reached(world, forms):
-    """For each form of a list a tree that it fits and none of the forms ahead of it, or None."""
-    check_forms(world, forms)
-    ahead = Missed(world, Diagram(world))
+def trees_reaching(world, diagram, forms):
+    """For each form a tree that it fits and none of the forms ahead of it, or None."""
+    ahead = Missed(world, diagram)
     trees = []
     for form in forms:
         trees.append(ahead.tree_with(form))
         ahead.put(form)
     return trees
+
+
+def reached(world, forms):
+    """For each form of a list a tree by which it is reached, or None."""
+    check_forms(world, forms)
+    return trees_reaching(world, Diagram(world), forms)
 
 
 def tree_between(fitting, missing):

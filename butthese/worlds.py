@@ -58,11 +58,19 @@ def built(form, leaf, whole):
         if isinstance(node, str):
             made.append(leaf(node))
         else:
-            many = len(node) - 1
-            parts = made[len(made) - many:]
-            del made[len(made) - many:]
-            made.append(whole(node[0], parts[::-1]))
+            made.append(whole(node[0], [made.pop() for _ in node[1:]]))
     return made[0]
+
+
+def sizes_of(tree):
+    """The sizes of a tree and of all that lies in it, from the front."""
+    sizes = []
+    waiting = []
+    for node in reversed(nodes_of(tree)):
+        parts = [] if node[0] == "*" else [waiting.pop() for _ in node[1:]]
+        waiting.append(1 + sum(parts))
+        sizes.append(waiting[-1])
+    return sizes[::-1]
 
 
 class World:
@@ -158,12 +166,6 @@ class World:
     def _order_of(self, tree):
         """What tells the place of a tree among the trees: for each node from the front its size, rank and number."""
         keys = []
-        sizes = []
-        for node in reversed(nodes_of(tree)):
-            further = node[0] == "*"
-            size = 1
-            for _ in range(0 if further else len(node) - 1):
-                size += sizes.pop()
-            sizes.append(size)
-            keys.append((size, self._ranks[node[0]], node[1] if further else 0))
-        return keys[::-1]
+        for node, size in zip(nodes_of(tree), sizes_of(tree)):
+            keys.append((size, self._ranks[node[0]], node[1] if node[0] == "*" else 0))
+        return keys
