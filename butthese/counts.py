@@ -3,7 +3,7 @@
 from butthese.diagrams import ALL, NONE, WHOLE, Diagram, below
 from butthese.errors import HasMore, NotThere
 from butthese.rests import check_plain, left_behind
-from butthese.worlds import nodes_of, sizes_of
+from butthese.worlds import MOST_PARTS, nodes_of, sizes_of
 
 GREATEST = 200
 
@@ -12,7 +12,9 @@ class Forests:
     """In how many ways so many trees in a row can have so many signs in all."""
 
     def __init__(self, world):
-        self._parts = [number for _, number in world.signs]
+        parts = [number for _, number in world.signs]
+        # How many signs have so many parts, from 0 on.
+        self._signs = [len([number for number in parts if number == many]) for many in range(MOST_PARTS + 1)]
         self._rows = [[1]]
 
     def told(self, trees, size):
@@ -25,12 +27,10 @@ class Forests:
 
     def _next_row(self):
         """The numbers for the next size: without the first sign, its parts stand ahead of the trees behind."""
-        before = self._rows[-1]
-        row = [0]
-        for trees in range(1, len(before) + 1):
-            left = [trees - 1 + parts for parts in self._parts]
-            row.append(sum([before[many] for many in left if many < len(before)]))
-        return row
+        none, one, two, three = self._signs
+        before = [*self._rows[-1], 0, 0, 0]
+        return [0, *[none * first + one * second + two * third + three * fourth
+                     for first, second, third, fourth in zip(before, before[1:], before[2:], before[3:])]]
 
 
 class Fitted:

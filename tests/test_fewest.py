@@ -12,8 +12,8 @@ from butthese.lots import Lot
 from butthese.rests import parted, rest
 from butthese.worlds import World
 import plain
-from plain import (A, B, CHAIN, FORKS, FULL, LONE_PAIRS, MIXED, NIL, ONE, PAIRS, POINT, THREE, TIGHT_WORLDS, TWO, WIDE,
-                   WIDE_FULL, WIDE_PAIRS, WORLDS, Forms)
+from plain import (A, B, CHAIN, FORKS, FULL, LONE_PAIRS, MIXED, NIL, ONE, PAIRS, POINT, THREE, TIGHT_WORLDS, TRIPLES,
+                   TWO, WIDE, WIDE_FULL, WIDE_PAIRS, WORLDS, Forms)
 from wrong import WrongPlainLists
 
 DEEPEST = 2
@@ -29,7 +29,7 @@ def heads_of(world):
 
 
 class Looked:
-    """All plain forms of a world within the bounds, each with the shapes of trees that it fits: as the bits of a number.
+    """All plain forms of a world within the bounds, each with the shapes of trees that it fits as the bits of a number.
 
     A shape tells of a tree all signs that a form within the bounds can ask for.
     """
@@ -136,6 +136,24 @@ class AllForms(Fewest):
             for many in range(LONGEST):
                 for passed in itertools.product(some, repeat=many):
                     self.check(looked, world, list(passed))
+
+    def test_all_lists_of_forms_with_one_first_sign(self):
+        """In a world of two signs, so that there are many ways to say the same."""
+        looked = Looked(TRIPLES)
+        forms = [("f", *parts) for parts in itertools.product(["_", A, ("f", "_", "_", "_")], repeat=3)]
+        for passed in itertools.combinations(forms, 3):
+            self.check(looked, TRIPLES, list(passed))
+        for passed in list(itertools.combinations(forms, 4))[::9]:
+            self.check(looked, TRIPLES, list(passed))
+
+    def test_a_list_that_is_hard_to_say_with_few_forms(self):
+        """All but the trees of three a and of three f: six forms fit two of the six kinds each, and three will do."""
+        f = ("f", "_", "_", "_")
+        cycle = [("f", A, f, "_"), ("f", "_", A, f), ("f", f, "_", A)]
+        for passed in (cycle, [("f", f, A, "_"), ("f", "_", f, A), ("f", A, "_", f)], cycle[:2] + [("f", f, A, A)],
+                       [*cycle, ("f", f, A, "_")], [("f", "_", f, A), *cycle]):
+            told = self.check(Looked(TRIPLES), TRIPLES, passed)
+            self.assertLessEqual(len(told), 3)
 
     def test_lists_that_the_package_told(self):
         tried = 0
