@@ -2,7 +2,7 @@
 
 from butthese.diagrams import ALL, NONE, WHOLE, Diagram, below
 from butthese.errors import HasMore, NotThere
-from butthese.rests import check_plain, left_behind
+from butthese.rests import check_plain, fitted_set
 from butthese.worlds import MOST_PARTS, nodes_of, sizes_of
 
 GREATEST = 200
@@ -40,7 +40,7 @@ class Fitted:
         self.signs_told = world.signs
         self._greatest = greatest
         self._diagram = Diagram(world)
-        self.whole = self._diagram.less(ALL, left_behind(self._diagram, forms)[-1])
+        self.whole = fitted_set(self._diagram, forms)
         self._forests = Forests(world)
         self._ends = {}
 

@@ -1,7 +1,7 @@
 """The fewest plain forms that say the same as a list."""
 
-from butthese.diagrams import ALL, NONE, WHOLE, Diagram, Heads, row_of
-from butthese.rests import check_plain, left_behind
+from butthese.diagrams import NONE, WHOLE, Diagram, Heads, row_of
+from butthese.rests import check_plain, fitted_set
 
 
 class Covers:
@@ -13,7 +13,7 @@ class Covers:
     def __init__(self, world, forms):
         self._heads = Heads(world)
         self._diagram = Diagram(world)
-        self.whole = self._diagram.less(ALL, left_behind(self._diagram, forms)[-1])
+        self.whole = fitted_set(self._diagram, forms)
         self._places = sorted({place for form in forms for place in row_of(form)})
         # For a set how many rows are known to be too few for it.
         self._too_few = {}

@@ -1,7 +1,7 @@
 """Lots: the trees that lists of plain forms fit, and what comes of them."""
 
 from butthese.diagrams import ALL, NONE, Diagram
-from butthese.rests import check_plain, left_behind
+from butthese.rests import check_plain, fitted_set
 
 
 class Lot:
@@ -11,7 +11,7 @@ class Lot:
         check_plain(world, forms)
         self._world = world
         self._diagram = Diagram(world)
-        self._number = self._diagram.less(ALL, left_behind(self._diagram, forms)[-1])
+        self._number = fitted_set(self._diagram, forms)
 
     def __eq__(self, other):
         return isinstance(other, Lot) and self._world == other._world and self.forms == other.forms

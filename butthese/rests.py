@@ -27,6 +27,11 @@ def left_behind(diagram, forms):
     return left
 
 
+def fitted_set(diagram, forms):
+    """The set of the trees that a list of plain forms fits."""
+    return diagram.less(ALL, left_behind(diagram, forms)[-1])
+
+
 def rest(world, forms):
     """Plain forms, no two of which share a tree, that fit just the trees that a list misses."""
     check_plain(world, forms)
